@@ -1,7 +1,10 @@
 // Package tick tells which prices there are.
 package tick
 
-import "pitfloor/api"
+import (
+	"pitfloor/api"
+	"pitfloor/span"
+)
 
 const (
 	maxTick  = 100
@@ -10,11 +13,11 @@ const (
 )
 
 // Price tells what is wrong with one.
-func Price(p int) error { return within(p, 1, api.MaxPrice) }
+func Price(p int) error { return span.Check(span.Price(p)) }
 
 // On a tick?
 func On(p, tick int) (bool, error) {
-	if err := priceAndTick(p, tick); err != nil {
+	if err := span.Check(span.Price(p), ofTick(tick)); err != nil {
 		return false, err
 	}
 	return p%tick == 0, nil
@@ -22,10 +25,7 @@ func On(p, tick int) (bool, error) {
 
 // Round a price.
 func Round(p, tick, side int) (int, error) {
-	if err := priceAndTick(p, tick); err != nil {
-		return 0, err
-	}
-	if err := knownSide(side); err != nil {
+	if err := span.Check(span.Price(p), ofTick(tick), span.Side(side)); err != nil {
 		return 0, err
 	}
 	rounded := p - p%tick
@@ -41,10 +41,7 @@ func Round(p, tick, side int) (int, error) {
 
 // Band about a price.
 func Band(p, ref, parts int) (bool, error) {
-	if err := bothPrices(p, ref); err != nil {
-		return false, err
-	}
-	if err := within(parts, 0, maxParts); err != nil {
+	if err := span.Check(span.Price(p), span.Price(ref), span.Of(parts, 0, maxParts)); err != nil {
 		return false, err
 	}
 	apart := max(p, ref) - min(p, ref)
@@ -53,10 +50,7 @@ func Band(p, ref, parts int) (bool, error) {
 
 // Better of two prices.
 func Better(side, a, b int) (bool, error) {
-	if err := knownSide(side); err != nil {
-		return false, err
-	}
-	if err := bothPrices(a, b); err != nil {
+	if err := span.Check(span.Side(side), span.Price(a), span.Price(b)); err != nil {
 		return false, err
 	}
 	if side == api.Buy {
@@ -65,30 +59,4 @@ func Better(side, a, b int) (bool, error) {
 	return a > b, nil
 }
 
-func priceAndTick(p, tick int) error {
-	if err := Price(p); err != nil {
-		return err
-	}
-	return within(tick, 1, maxTick)
-}
-
-func bothPrices(a, b int) error {
-	if err := Price(a); err != nil {
-		return err
-	}
-	return Price(b)
-}
-
-func knownSide(side int) error {
-	if side != api.Buy && side != api.Sell {
-		return api.ErrRange
-	}
-	return nil
-}
-
-func within(n, low, high int) error {
-	if n < low || n > high {
-		return api.ErrRange
-	}
-	return nil
-}
+func ofTick(n int) span.Span { return span.Of(n, 1, maxTick) }
