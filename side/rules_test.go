@@ -25,6 +25,7 @@ var calls = []struct {
 	{"Add between", func(s int, l []api.Level) []api.Level { return added(s, l, behind(s, top, 1)) }},
 	{"Add behind", func(s int, l []api.Level) []api.Level { return added(s, l, behind(s, top, 999)) }},
 	{"Drop the first", func(s int, l []api.Level) []api.Level { return dropped(s, l, 1) }},
+	{"Fresh", func(s int, l []api.Level) []api.Level { return side.Fresh(l) }},
 	{"Drop another", func(s int, l []api.Level) []api.Level { return dropped(s, l, 3) }},
 }
 

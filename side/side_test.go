@@ -359,6 +359,15 @@ func TestDropUndoesAdd(t *testing.T) {
 	})
 }
 
+// Fresh copies whatever there is, and asks nothing of it.
+func TestFresh(t *testing.T) {
+	for _, l := range [][]api.Level{nil, {}, {{}}, stairs(api.Buy, 2, 1, 3), flat(api.Sell, 61), {level(0, 1, 1), level(-1)}} {
+		if got := side.Fresh(l); !same(got, l) {
+			t.Errorf("Fresh(%v): got %v", l, got)
+		}
+	}
+}
+
 func ExampleAdd() {
 	l, err := side.Add(api.Buy, nil, 98, api.Rest{Id: 7, Who: 3, Qty: 5})
 	l, err = side.Add(api.Buy, l, 101, api.Rest{Id: 8, Who: 1, Qty: 2})
