@@ -290,6 +290,16 @@ func TestPutAllOrders(t *testing.T) {
 	}
 }
 
+// Fresh copies whatever there is, and asks nothing of it.
+func TestFresh(t *testing.T) {
+	odd := []api.Level{level(0, 1, 1), level(-1), {}}
+	for _, b := range []api.Book{{}, {Buys: odd}, {Sells: odd}, {Buys: odd, Sells: odd}, made([]int{2, 1}, []int{3}), made(flat(61), flat(60))} {
+		if got := book.Fresh(b); !same(got, b) {
+			t.Errorf("Fresh(%v): got %v", b, got)
+		}
+	}
+}
+
 func ExamplePut() {
 	b, err := book.Put(api.Book{}, api.Buy, 98, api.Rest{Id: 7, Who: 3, Qty: 5})
 	b, err = book.Put(b, api.Sell, 101, api.Rest{Id: 8, Who: 1, Qty: 2, Hidden: 6, Show: 2})

@@ -21,6 +21,7 @@ var calls = []struct {
 	{"Find", func(b api.Book) api.Book { book.Find(b, 2); return api.Book{} }},
 	{"Count", func(b api.Book) api.Book { book.Count(b); return api.Book{} }},
 	{"Print", func(b api.Book) api.Book { book.Print(b); return api.Book{} }},
+	{"Fresh", book.Fresh},
 	{"Put at the best to buy", func(b api.Book) api.Book { return put(b, api.Buy, bid) }},
 	{"Put at the best to sell", func(b api.Book) api.Book { return put(b, api.Sell, ask) }},
 	{"Put ahead", func(b api.Book) api.Book { return put(b, api.Buy, bid+1) }},
