@@ -132,6 +132,15 @@ func TestCheckShowIsOfLimitAndPostAlone(t *testing.T) {
 	}
 }
 
+func TestMayRestIsOfLimitAndPostAlone(t *testing.T) {
+	for _, kind := range []int{math.MinInt, -1, 0, 1, 2, 3, 4, 5, 6, math.MaxInt} {
+		want := kind == api.Limit || kind == api.Post
+		if got := order.MayRest(kind); got != want {
+			t.Errorf("MayRest(%d): got %v, want %v", kind, got, want)
+		}
+	}
+}
+
 func TestCheckStopIsZeroOrAPrice(t *testing.T) {
 	for _, o := range good {
 		for _, n := range []int{0, 1, 2, 9999, 10000} {
