@@ -26,9 +26,12 @@ func wantTradesError(t *testing.T, b api.Book, o api.Order, want api.Errno) {
 	}
 }
 
-// wantError of all three calls.
+// wantError of all calls.
 func wantError(t *testing.T, b api.Book, o api.Order, want api.Errno) {
 	t.Helper()
+	if err := meet.Check(b, o); plain.Told(err) != want {
+		t.Errorf("Check(%v, %v): got %v, want %v", b, o, err, want)
+	}
 	wantDoError(t, b, o, want)
 	wantTradesError(t, b, o, want)
 	if n, err := meet.Could(b, o); n != 0 || plain.Told(err) != want {
