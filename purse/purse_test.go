@@ -230,3 +230,20 @@ func ExamplePurses_Trade() {
 	// {1 596 0 4 0} <nil>
 	// 1000 50
 }
+
+// What is done to Purses is not done to a Fresh of them, nor the other way.
+func TestFreshIsApart(t *testing.T) {
+	first, second := api.Purse{Who: 1, Cash: 900, Held: 300, Stock: 8, HeldStock: 2}, api.Purse{Who: 9, Cash: 700, Held: 500, Stock: 6, HeldStock: 4}
+	p := pursesOf(t, first, second)
+	other := p.Fresh()
+	wantSeen(t, other, first, second)
+	wantDone(t, p, paying(1, 5))
+	wantDone(t, p, trading(1, 9, 100, 2))
+	wantSeen(t, other, first, second)
+	was := look(t, p)
+	wantDone(t, other, holding(9, 200, 1))
+	wantDone(t, other, freeing(1, 1, 1))
+	if is := look(t, p); is != was {
+		t.Errorf("%v is now %v", was, is)
+	}
+}

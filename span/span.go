@@ -28,6 +28,9 @@ func Who(n int) Span { return Of(n, 1, api.MaxWho) }
 // Qty is at least 1: nobody wants nothing.
 func Qty(n int) Span { return Of(n, 1, api.MaxQty) }
 
+// Mode of what is done when one would trade with oneself.
+func Mode(n int) Span { return Of(n, api.Allow, api.DropBoth) }
+
 // Check tells whether all numbers may stand where they do.
 func Check(spans ...Span) error {
 	if slices.ContainsFunc(spans, func(s Span) bool { return s.n < s.low || s.n > s.high }) {

@@ -29,6 +29,7 @@ func TestBounds(t *testing.T) {
 		{"Id", span.Id, 1, 9999},
 		{"Who", span.Who, 1, 9},
 		{"Qty", span.Qty, 1, 10000},
+		{"Mode", span.Mode, 0, 3},
 	}
 	for _, k := range kinds {
 		wantCheck(t, api.OK, k.name+" at the least", k.of(k.low))

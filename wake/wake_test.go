@@ -231,3 +231,24 @@ func ExampleStops_Wake() {
 	// {8 2 1 3 105 5 0 101} <nil>
 	// {0 0 0 0 0 0 0 0} ErrNone
 }
+
+// What is done to Stops is not done to a Fresh of them, nor the other way.
+func TestFreshIsApart(t *testing.T) {
+	for _, count := range []int{0, 1, 2, 3, 5, 8, 19} {
+		s := stopsOf(t, mixed(count)...)
+		other := s.Fresh()
+		wantAll(t, other, mixed(count)...)
+		wantPut(t, s, buy(500, 100), api.OK)
+		wantAll(t, other, mixed(count)...)
+		wantPut(t, other, sell(501, 100), api.OK)
+		wantAll(t, s, append(mixed(count), buy(500, 100))...)
+		for _, o := range mixed(count) {
+			wantDrop(t, s, o)
+		}
+		wantAll(t, other, append(mixed(count), sell(501, 100))...)
+		if _, err := other.Wake(100); err != nil {
+			t.Error(err)
+		}
+		wantAll(t, s, buy(500, 100))
+	}
+}
