@@ -127,6 +127,27 @@ func TestFloorsAreApart(t *testing.T) {
 	}
 }
 
+// What is done to one that Fresh told is not done to the one that told it, nor the other way round.
+func TestAFreshOneIsApart(t *testing.T) {
+	for mode := api.Allow; mode <= api.DropBoth; mode++ {
+		f := empty(t, mode)
+		for _, c := range walk(mode + 30) {
+			was, fresh := look(t, f), f.Fresh()
+			wantSame(t, f.Fresh(), f.Fresh(), c)
+			wantStill(t, f, was)
+			f.Do(c)
+			wantStill(t, fresh, was)
+		}
+	}
+}
+
+func wantStill(t *testing.T, f *floor.Floor, was seen) {
+	t.Helper()
+	if is := look(t, f); !same(is, was) {
+		t.Fatalf("%v is now %v", was, is)
+	}
+}
+
 // ends of numbers, next to all bounds.
 var ends = []int{
 	math.MinInt, math.MinInt + 1, -1 << 32, -1, 0, 1, 2, 3, 4, 5, 6, 9, 10, 97, 100, 9999, 10000, 10001, most, most + 1, 1<<32 + 1, math.MaxInt - 1, math.MaxInt,

@@ -28,7 +28,7 @@ func Pack(l []api.Command) (string, error) {
 func Unpack(b string) ([]api.Command, error) {
 	var l []api.Command
 	for b != "" {
-		one, others, whole := cut(b)
+		one, others, whole := Cut(b)
 		// More than may be packed are none of Pack's bytes.
 		if !whole || len(l) == api.MaxTrades {
 			return nil, api.ErrSyntax
@@ -42,8 +42,11 @@ func Unpack(b string) ([]api.Command, error) {
 	return l, nil
 }
 
-// cut the bytes of the first command off, and tell whether all of them are there.
-func cut(b string) (one, others string, whole bool) {
+// Cut the bytes of the first command of a pack off, and tell whether all of them are there.
+func Cut(b string) (one, others string, whole bool) {
+	if b == "" {
+		return "", "", false
+	}
 	end := 1 + int(b[0])
 	if end > len(b) {
 		return "", "", false

@@ -6,6 +6,7 @@ import (
 	"testing"
 
 	"pitfloor/api"
+	"pitfloor/wire"
 )
 
 // W1 of chapter 17: commands as bytes, and back.
@@ -127,4 +128,29 @@ func TestPacksJoined(t *testing.T) {
 	want := slices.Concat(a, b)
 	wantPacked(t, want, packed(t, a...)+packed(t, b...))
 	wantUnpacked(t, packed(t, a...)+packed(t, b...), want...)
+}
+
+// Cut has the bytes of the first command of a pack, and those behind it.
+func TestCut(t *testing.T) {
+	one, more := written(t, cancel(515)), packed(t, pay(1, 2), cancel(3))
+	whole := packed(t, cancel(515)) + more
+	for end := range len(one) + 1 {
+		wantCut(t, whole[:end], "", "", false)
+	}
+	for end := range len(more) + 1 {
+		wantCut(t, whole[:1+len(one)+end], one, more[:end], true)
+	}
+	// It asks for the length alone.
+	wantCut(t, bytes(0), "", "", true)
+	wantCut(t, bytes(0, 0), "", bytes(0), true)
+	wantCut(t, bytes(1, 77), bytes(77), "", true)
+	wantCut(t, bytes(255)+strings.Repeat("x", 254), "", "", false)
+	wantCut(t, bytes(255)+strings.Repeat("x", 256), strings.Repeat("x", 255), "x", true)
+}
+
+func wantCut(t *testing.T, b, one, others string, whole bool) {
+	t.Helper()
+	if gotOne, gotOthers, got := wire.Cut(b); gotOne != one || gotOthers != others || got != whole {
+		t.Errorf("Cut(%q): got %q %q %v, want %q %q %v", b, gotOne, gotOthers, got, one, others, whole)
+	}
 }
